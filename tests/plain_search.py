@@ -1,0 +1,46 @@
+"""A plain search over all sets of nodes, written from the document and sharing no code with the package."""
+
+from itertools import product
+
+
+def closed(mask, tree):
+    nodes = [i for i in range(len(tree) // 2) if mask >> i & 1]
+    return all(tree[2 * i] == 0 or tree[2 * i] - 1 in nodes for i in nodes)
+
+
+def count_and_weight(mask, tree):
+    nodes = [i for i in range(len(tree) // 2) if mask >> i & 1]
+    return len(nodes), sum(tree[2 * i + 1] for i in nodes)
+
+
+def closed_sets(tree):
+    """Every closed set as (mask, count, weight)."""
+    masks = range(1 << len(tree) // 2)
+    return [(mask, *count_and_weight(mask, tree)) for mask in masks if closed(mask, tree)]
+
+
+def best_of(p, q, sets):
+    """The optimal pruning among the sets, as the operation is to answer it."""
+    mask, count, weight = min(sets, key=lambda each: (p * each[1] - q * each[2], each[1], each[0]))
+    return [count, mask, weight]
+
+
+def all_trees(n, weights):
+    """Every tree of n nodes with these weights."""
+    for parents in product(*(range(i + 1) for i in range(n))):
+        for chosen in product(weights, repeat=n):
+            yield [number for node in zip(parents, chosen) for number in node]
+
+
+class Numbers:
+    """Numbers that look drawn by lot and are the same in each run."""
+
+    def __init__(self, seed):
+        self.state = seed
+
+    def below(self, bound):
+        self.state = (self.state * 6364136223846793005 + 1442695040888963407) % 2**64
+        return (self.state >> 33) % bound
+
+    def tree(self, n, most_weight):
+        return [number for i in range(n) for number in (self.below(i + 1), self.below(most_weight + 1))]

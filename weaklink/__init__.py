@@ -1,0 +1,1 @@
+"""Cost-complexity pruning of rooted trees."""

@@ -1,0 +1,40 @@
+"""Sets of nodes, each as a mask: bit i is set if node i is in the set."""
+
+from weaklink.trees import ROOT, node_total, node_weight, parent_entry
+
+
+def has_node(mask, node):
+    """Tell whether the node is in the set."""
+    return (mask >> node) & 1 == 1
+
+
+def has_parent(mask, node, tree):
+    """Tell whether the node is attached to the root or to a node of the set."""
+    entry = parent_entry(node, tree)
+    return entry == ROOT or has_node(mask, entry - 1)
+
+
+def is_closed(mask, tree):
+    """Tell whether the set contains the parent of each of its nodes."""
+    for node in range(node_total(tree)):
+        if has_node(mask, node) and not has_parent(mask, node, tree):
+            return False
+    return True
+
+
+def set_count(mask, tree):
+    """Give back how many nodes of the tree are in the set."""
+    count = 0
+    for node in range(node_total(tree)):
+        if has_node(mask, node):
+            count += 1
+    return count
+
+
+def set_weight(mask, tree):
+    """Give back the sum of the weights of the nodes in the set."""
+    weight = 0
+    for node in range(node_total(tree)):
+        if has_node(mask, node):
+            weight += node_weight(node, tree)
+    return weight
