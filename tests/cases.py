@@ -8,6 +8,8 @@ EXAMPLE = [0, 5, 1, 2, 0, 1]
 # Ten nodes: in a chain (each parent the latest allowed), and all at the root.
 CHAIN = [number for i in range(10) for number in (i, 99)]
 STAR = [number for i in range(10) for number in (0, 99)]
+# The mask of all ten.
+ALL = 1023
 
 
 def with_entry(tree, position, value):
@@ -56,6 +58,26 @@ COSTS_OUTSIDE_LIMITS = [
     (1000, 100),
     (GREATEST, GREATEST),
 ]
+
+
+def masks_with_a_missing_node():
+    """Masks that name a node which isn't in the tree, each with its tree."""
+    calls = [(mask, EXAMPLE) for mask in (8, 9, 10, 14, 15, 16, 1024, 1 << 31, GREATEST - 1, GREATEST)]
+    calls += [(mask, STAR) for mask in (1024, 1025, 2047, 2048, GREATEST)]
+    calls += [(mask, CHAIN) for mask in (1024, 1026, 2047, GREATEST)]
+    calls += [(mask, []) for mask in (1, 2, GREATEST)]
+    for n in range(11):
+        calls.append((1 << n, CHAIN[:2 * n]))
+    return calls
+
+
+def sets_not_closed():
+    """Masks that lack the parent of one of their nodes, each with its tree."""
+    calls = [(2, EXAMPLE), (6, EXAMPLE)]
+    # Of the three nodes of a chain: only the grandparent, only the parent, or neither is there.
+    calls += [(mask, [0, 1, 1, 1, 2, 1]) for mask in (5, 6, 4)]
+    calls += [(mask, CHAIN) for mask in range(1, ALL) if mask & (mask + 1) != 0]
+    return calls
 
 
 class WatchedList(list):

@@ -1,5 +1,6 @@
 """A plain search over all sets of nodes, written from the document and sharing no code with the package."""
 
+from fractions import Fraction
 from itertools import product
 
 
@@ -23,6 +24,33 @@ def best_of(p, q, sets):
     """The optimal pruning among the sets, as the operation is to answer it."""
     mask, count, weight = min(sets, key=lambda each: (p * each[1] - q * each[2], each[1], each[0]))
     return [count, mask, weight]
+
+
+def stands_below(node, ancestor, tree):
+    """Tell whether the way from the node up to the root passes the ancestor, or begins there."""
+    while node != ancestor:
+        if tree[2 * node] == 0:
+            return False
+        node = tree[2 * node] - 1
+    return True
+
+
+def branch_of(mask, node, tree):
+    """The branch of a node in the set as [count, mask, weight]."""
+    nodes = [i for i in range(len(tree) // 2) if mask >> i & 1]
+    found = sum(1 << i for i in nodes if stands_below(i, node, tree))
+    count, weight = count_and_weight(found, tree)
+    return [count, found, weight]
+
+
+def weakest_of(mask, tree):
+    """The weakest link of a set that isn't empty, as the operation is to answer it."""
+    links = []
+    for node in range(len(tree) // 2):
+        if mask >> node & 1:
+            count, found, weight = branch_of(mask, node, tree)
+            links.append((Fraction(weight, count), node, weight, count))
+    return list(min(links)[1:])
 
 
 def all_trees(n, weights):

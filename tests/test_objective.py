@@ -1,12 +1,11 @@
 import inspect
 import unittest
 
-from tests.cases import CHAIN, COSTS_OUTSIDE_LIMITS, EXAMPLE, GREATEST, STAR
-from tests.cases import WatchedList, is_number_list, trees_outside_limits, with_entry
+from tests.cases import ALL, CHAIN, COSTS_OUTSIDE_LIMITS, EXAMPLE, GREATEST, STAR
+from tests.cases import WatchedList, is_number_list, masks_with_a_missing_node, sets_not_closed
+from tests.cases import trees_outside_limits, with_entry
 from tests.plain_search import Numbers, all_trees, closed, closed_sets, count_and_weight
 from weaklink.pruning import objective, optimal_pruning
-
-ALL = 1023
 
 
 def expected_answer(p, q, mask, tree):
@@ -126,25 +125,12 @@ class WrongInputs(unittest.TestCase):
                 self.assertEqual(objective(p, q, 0, list(tree)), [-22], f"p={p} q={q} tree={tree}")
 
     def test_mask_names_a_node_that_is_not_there(self):
-        for mask in (8, 9, 15, 16, 1024, 1 << 31, GREATEST):
-            self.assertEqual(objective(3, 1, mask, list(EXAMPLE)), [-22], mask)
-        for mask in (1024, 1025, 2047, 2048, GREATEST):
-            self.assertEqual(objective(3, 1, mask, list(STAR)), [-22], mask)
-        for mask in (1, 2, GREATEST):
-            self.assertEqual(objective(3, 1, mask, []), [-22], mask)
+        for mask, tree in masks_with_a_missing_node():
+            self.assertEqual(objective(3, 1, mask, list(tree)), [-22], f"mask={mask} tree={tree}")
 
     def test_set_is_not_closed(self):
-        for mask in (2, 6):
-            self.assertEqual(objective(3, 1, mask, list(EXAMPLE)), [-33], mask)
-        for mask in range(1, ALL):
-            if mask & (mask + 1) != 0:
-                self.assertEqual(objective(0, 1, mask, list(CHAIN)), [-33], mask)
-
-    def test_only_the_grandparent_is_there(self):
-        self.assertEqual(objective(3, 1, 5, [0, 1, 1, 1, 2, 1]), [-33])
-
-    def test_only_the_parent_is_missing_at_the_root(self):
-        self.assertEqual(objective(3, 1, 6, [0, 1, 1, 1, 2, 1]), [-33])
+        for mask, tree in sets_not_closed():
+            self.assertEqual(objective(3, 1, mask, list(tree)), [-33], f"mask={mask} tree={tree}")
 
 
 class SeveralFaults(unittest.TestCase):

@@ -2,12 +2,10 @@ import inspect
 import unittest
 from fractions import Fraction
 
-from tests.cases import CHAIN, COSTS_OUTSIDE_LIMITS, EXAMPLE, GREATEST, STAR
+from tests.cases import ALL, CHAIN, COSTS_OUTSIDE_LIMITS, EXAMPLE, GREATEST, STAR
 from tests.cases import WatchedList, is_number_list, trees_outside_limits, with_entry
 from tests.plain_search import Numbers, all_trees, best_of, closed_sets
 from weaklink.pruning import optimal_pruning
-
-ALL = 1023
 
 
 class Interface(unittest.TestCase):

@@ -1,7 +1,11 @@
 """The limits of what is handed in, and the error codes."""
 
+from weaklink.masks import is_closed
 from weaklink.trees import node_total, node_weight, parent_entry
 
+NO_ERROR = 0
+NOT_IN_SET = -2
+EMPTY_SET = -6
 OUTSIDE_LIMITS = -22
 NOT_CLOSED = -33
 
@@ -37,3 +41,13 @@ def cost_fits(p, q):
 def mask_fits(mask, tree):
     """Tell whether the mask names nodes of the tree alone."""
     return 0 <= mask < (1 << node_total(tree))
+
+
+def set_error(mask, tree):
+    """Give back the error code that the tree or the set asks for, or NO_ERROR."""
+    # The limits of the tree come first: only within them can the mask be read against it.
+    if not tree_fits(tree) or not mask_fits(mask, tree):
+        return OUTSIDE_LIMITS
+    if not is_closed(mask, tree):
+        return NOT_CLOSED
+    return NO_ERROR

@@ -38,3 +38,14 @@ def set_weight(mask, tree):
         if has_node(mask, node):
             weight += node_weight(node, tree)
     return weight
+
+
+def branch_mask(mask, node, tree):
+    """Give back the node and all its descendants in the set, which must be closed and hold the node."""
+    found = 1 << node
+    # Children stand behind their parents, so whether a parent belongs is settled before its children are asked.
+    for later in range(node + 1, node_total(tree)):
+        entry = parent_entry(later, tree)
+        if has_node(mask, later) and entry != ROOT and has_node(found, entry - 1):
+            found |= 1 << later
+    return found

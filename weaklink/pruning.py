@@ -1,7 +1,7 @@
 """The operations on trees; each gives back one list of whole numbers."""
 
-from weaklink.limits import NOT_CLOSED, OUTSIDE_LIMITS, cost_fits, mask_fits, tree_fits
-from weaklink.masks import has_parent, is_closed, set_count, set_weight
+from weaklink.limits import EMPTY_SET, NO_ERROR, NOT_IN_SET, OUTSIDE_LIMITS, cost_fits, set_error, tree_fits
+from weaklink.masks import branch_mask, has_node, has_parent, set_count, set_weight
 from weaklink.trees import ROOT, node_total, node_weight, parent_entry
 
 
@@ -38,9 +38,50 @@ def optimal_pruning(p, q, tree):
 
 def objective(p, q, mask, tree):
     """Give back 0 and the objective of the set for a cost of p / q, or an error code."""
-    # The limits of the tree come first: only within them can the mask be read against it.
-    if not tree_fits(tree) or not cost_fits(p, q) or not mask_fits(mask, tree):
+    # A tree outside its limits has this code too, so it can't be seen that the cost is asked first.
+    if not cost_fits(p, q):
         return [OUTSIDE_LIMITS]
-    if not is_closed(mask, tree):
-        return [NOT_CLOSED]
+    error = set_error(mask, tree)
+    if error != NO_ERROR:
+        return [error]
     return [0, q * set_weight(mask, tree) - p * set_count(mask, tree)]
+
+
+def branch(mask, node, tree):
+    """Give back the count, the mask and the weight of the node's branch in the set, or an error code."""
+    error = set_error(mask, tree)
+    if error != NO_ERROR:
+        return [error]
+    if not has_node(mask, node):
+        return [NOT_IN_SET]
+    found = branch_mask(mask, node, tree)
+    return [set_count(found, tree), found, set_weight(found, tree)]
+
+
+def is_weaker(link, other):
+    """Tell whether the mean weight of the first link's branch is below the other's."""
+    # Multiplied crosswise, the two fractions are compared without a division, which would round.
+    return link[1] * other[2] < other[1] * link[2]
+
+
+def weakest_of(mask, tree):
+    """Give back the weakest link of a set that isn't empty, then the weight and the count of its branch."""
+    weakest = []
+    for node in range(node_total(tree)):
+        if has_node(mask, node):
+            found = branch_mask(mask, node, tree)
+            link = [node, set_weight(found, tree), set_count(found, tree)]
+            # An equal mean changes nothing, so the lowest index stays.
+            if weakest == [] or is_weaker(link, weakest):
+                weakest = link
+    return weakest
+
+
+def weakest_link(mask, tree):
+    """Give back the weakest link of the set, then the weight and the count of its branch, or an error code."""
+    error = set_error(mask, tree)
+    if error != NO_ERROR:
+        return [error]
+    if mask == 0:
+        return [EMPTY_SET]
+    return weakest_of(mask, tree)
