@@ -53,6 +53,23 @@ def weakest_of(mask, tree):
     return list(min(links)[1:])
 
 
+def sequence_of(tree):
+    """The cuts down to the empty set as (node, weight, count, mask of what remains), one after the other."""
+    cuts = []
+    mask = sum(1 << i for i in range(len(tree) // 2))
+    while mask != 0:
+        node, weight, count = weakest_of(mask, tree)
+        mask -= branch_of(mask, node, tree)[1]
+        cuts.append((node, weight, count, mask))
+    return cuts
+
+
+def best_within(limit, sets):
+    """The greatest weight among the sets with at most limit nodes, and the smallest mask that has it."""
+    mask, count, weight = min((each for each in sets if each[1] <= limit), key=lambda each: (-each[2], each[0]))
+    return [weight, mask]
+
+
 def all_trees(n, weights):
     """Every tree of n nodes with these weights."""
     for parents in product(*(range(i + 1) for i in range(n))):

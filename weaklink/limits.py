@@ -1,6 +1,6 @@
 """The limits of what is handed in, and the error codes."""
 
-from weaklink.masks import is_closed
+from weaklink.masks import all_nodes, is_closed
 from weaklink.trees import node_total, node_weight, parent_entry
 
 NO_ERROR = 0
@@ -40,7 +40,7 @@ def cost_fits(p, q):
 
 def mask_fits(mask, tree):
     """Tell whether the mask names nodes of the tree alone."""
-    return 0 <= mask < (1 << node_total(tree))
+    return 0 <= mask <= all_nodes(tree)
 
 
 def set_error(mask, tree):

@@ -3,6 +3,11 @@
 from weaklink.trees import ROOT, node_total, node_weight, parent_entry
 
 
+def all_nodes(tree):
+    """Give back the set of all nodes of the tree."""
+    return (1 << node_total(tree)) - 1
+
+
 def has_node(mask, node):
     """Tell whether the node is in the set."""
     return (mask >> node) & 1 == 1
@@ -49,3 +54,12 @@ def branch_mask(mask, node, tree):
         if has_node(mask, later) and entry != ROOT and has_node(found, entry - 1):
             found |= 1 << later
     return found
+
+
+def closed_sets(tree):
+    """Give back every closed set of nodes, the smallest mask first."""
+    masks = [0]
+    for node in range(node_total(tree)):
+        # A set that has this node is greater than all those of earlier nodes alone, so the order holds.
+        masks = masks + [mask | (1 << node) for mask in masks if has_parent(mask, node, tree)]
+    return masks

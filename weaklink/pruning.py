@@ -1,7 +1,7 @@
 """The operations on trees; each gives back one list of whole numbers."""
 
 from weaklink.limits import EMPTY_SET, NO_ERROR, NOT_IN_SET, OUTSIDE_LIMITS, cost_fits, set_error, tree_fits
-from weaklink.masks import branch_mask, has_node, has_parent, set_count, set_weight
+from weaklink.masks import all_nodes, branch_mask, closed_sets, has_node, has_parent, set_count, set_weight
 from weaklink.trees import ROOT, node_total, node_weight, parent_entry
 
 
@@ -85,3 +85,33 @@ def weakest_link(mask, tree):
     if mask == 0:
         return [EMPTY_SET]
     return weakest_of(mask, tree)
+
+
+def pruning_sequence(tree):
+    """Give back the number of cuts, then for each its weakest link and the set that remains, or an error code."""
+    if not tree_fits(tree):
+        return [OUTSIDE_LIMITS]
+    cut_count = 0
+    cuts = []
+    remaining = all_nodes(tree)
+    while remaining != 0:
+        link = weakest_of(remaining, tree)
+        # A whole branch goes, so no node is left without its parent: what remains is closed again.
+        remaining ^= branch_mask(remaining, link[0], tree)
+        cuts += link + [remaining]
+        cut_count += 1
+    return [cut_count] + cuts
+
+
+def best_with_limit(limit, tree):
+    """Give back the greatest weight of a closed set with at most limit nodes, and its mask, or an error code."""
+    if not tree_fits(tree):
+        return [OUTSIDE_LIMITS]
+    # The empty set is within every limit.
+    best = [0, 0]
+    for mask in closed_sets(tree):
+        weight = set_weight(mask, tree)
+        # The masks ascend, so an equal weight changes nothing: the smallest mask stays.
+        if weight > best[0] and set_count(mask, tree) <= limit:
+            best = [weight, mask]
+    return best
