@@ -90,6 +90,11 @@ class WatchedList(list):
     __setitem__ = __delitem__ = __iadd__ = __imul__ = refuse
 
 
+def cuts_of(result):
+    """The cuts of a pruning sequence as (node, weight, count, mask of what remains)."""
+    return [tuple(result[i:i + 4]) for i in range(1, len(result), 4)]
+
+
 def is_number_list(result):
     """Tell whether the result is one plain list of whole numbers."""
     return type(result) is list and all(type(number) is int for number in result)

@@ -89,3 +89,9 @@ class Numbers:
 
     def tree(self, n, most_weight):
         return [number for i in range(n) for number in (self.below(i + 1), self.below(most_weight + 1))]
+
+
+def many_trees(seed):
+    """Trees of 0 to 10 nodes; the small weights make many equal means."""
+    numbers = Numbers(seed)
+    return [numbers.tree(n, most_weight) for n in range(11) for most_weight in (0, 1, 2, 5, 20, 99) for i in range(4)]

@@ -1,6 +1,5 @@
 import inspect
 import unittest
-from fractions import Fraction
 
 from tests.cases import ALL, CHAIN, COSTS_OUTSIDE_LIMITS, EXAMPLE, GREATEST, STAR
 from tests.cases import WatchedList, is_number_list, trees_outside_limits, with_entry
@@ -100,21 +99,8 @@ class AgainstPlainSearch(unittest.TestCase):
                 self.check([(p, q) for p in (0, 1, 998, 999) for q in (1, 2, 10, 11, 98, 99)], numbers.tree(n, 99))
 
 
-class Requirements(unittest.TestCase):
-    def test_greater_cost_gives_a_subset(self):
-        costs = {Fraction(p, q) for q in (1, 2, 3, 7) for p in range(0, 100 * q, 3) if p <= 999}
-        ascending = [(cost.numerator, cost.denominator) for cost in sorted(costs)]
-        numbers = Numbers(3)
-        for n in range(11):
-            for most_weight in (2, 20, 99):
-                tree = numbers.tree(n, most_weight)
-                larger = (1 << n) - 1
-                for p, q in ascending:
-                    mask = optimal_pruning(p, q, list(tree))[1]
-                    self.assertEqual(mask & ~larger, 0, f"p={p} q={q} tree={tree}")
-                    larger = mask
-
-    def test_equal_costs_give_the_same(self):
+class EqualCosts(unittest.TestCase):
+    def test_fraction_may_be_written_otherwise(self):
         numbers = Numbers(4)
         for i in range(30):
             tree = numbers.tree(10, 12)

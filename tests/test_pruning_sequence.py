@@ -1,22 +1,10 @@
 import inspect
 import unittest
-from fractions import Fraction
 
 from tests.cases import ALL, CHAIN, EXAMPLE, GREATEST, STAR
-from tests.cases import WatchedList, is_number_list, trees_outside_limits, with_entry
-from tests.plain_search import Numbers, all_trees, best_of, closed, closed_sets, count_and_weight, sequence_of
-from weaklink.pruning import branch, optimal_pruning, pruning_sequence, weakest_link
-
-
-def cuts_of(result):
-    """The cuts of a result as (node, weight, count, mask of what remains)."""
-    return [tuple(result[i:i + 4]) for i in range(1, len(result), 4)]
-
-
-def many_trees(seed):
-    """Trees of 0 to 10 nodes; small weights make many equal means."""
-    numbers = Numbers(seed)
-    return [numbers.tree(n, most) for n in range(11) for most in (0, 1, 2, 5, 20, 99) for i in range(4)]
+from tests.cases import WatchedList, cuts_of, is_number_list, trees_outside_limits, with_entry
+from tests.plain_search import Numbers, all_trees, closed, count_and_weight, many_trees, sequence_of
+from weaklink.pruning import pruning_sequence
 
 
 class Interface(unittest.TestCase):
@@ -152,14 +140,6 @@ class AgainstPlainSearch(unittest.TestCase):
         for tree in many_trees(13):
             self.check(tree)
 
-    def test_weakest_link_and_branch_say_the_same(self):
-        for tree in many_trees(14):
-            mask = (1 << len(tree) // 2) - 1
-            for node, weight, count, remaining in cuts_of(pruning_sequence(list(tree))):
-                self.assertEqual(weakest_link(mask, list(tree)), [node, weight, count], tree)
-                self.assertEqual(branch(mask, node, list(tree)), [count, mask - remaining, weight], tree)
-                mask = remaining
-
 
 class EveryCut(unittest.TestCase):
     def test_numbers_and_weights_add_up_to_the_tree(self):
@@ -184,37 +164,6 @@ class EveryCut(unittest.TestCase):
                 self.assertEqual(count_and_weight(mask - remaining, tree), (count, weight), tree)
                 self.assertEqual((mask - remaining) >> node & 1, 1, tree)
                 mask = remaining
-
-
-class Requirements(unittest.TestCase):
-    def left_at(self, p, q, tree):
-        """The set that remains after the cuts whose mean weight is at most the cost."""
-        cuts = cuts_of(pruning_sequence(list(tree)))
-        cheap = [cut for cut in cuts if Fraction(cut[1], cut[2]) <= Fraction(p, q)]
-        return cheap[-1][3] if cheap else (1 << len(tree) // 2) - 1
-
-    def test_cuts_up_to_the_cost_leave_the_optimal_pruning(self):
-        for tree in many_trees(18):
-            costs = [(0, 1), (1, 99), (1, 2), (4, 3), (7, 2), (99, 1), (999, 99), (999, 1)]
-            # At the mean of each cut, and right below and above it.
-            for node, weight, count, remaining in cuts_of(pruning_sequence(list(tree))):
-                costs += [(weight, count), (9 * weight - 1, 9 * count), (9 * weight + 1, 9 * count)]
-            for p, q in costs:
-                if 0 <= p <= 999 and q <= 99:
-                    mask = optimal_pruning(p, q, list(tree))[1]
-                    self.assertEqual(self.left_at(p, q, tree), mask, f"p={p} q={q} tree={tree}")
-
-    def test_cuts_up_to_the_cost_leave_the_best_of_all_sets(self):
-        for tree in many_trees(19)[::3]:
-            sets = closed_sets(tree)
-            for node, weight, count, remaining in cuts_of(pruning_sequence(list(tree))):
-                mask = best_of(weight, count, sets)[1]
-                self.assertEqual(self.left_at(weight, count, tree), mask, f"cut={node} tree={tree}")
-
-    def test_means_never_decrease(self):
-        for tree in many_trees(20):
-            means = [Fraction(cut[1], cut[2]) for cut in cuts_of(pruning_sequence(list(tree)))]
-            self.assertEqual(means, sorted(means), tree)
 
 
 class Edges(unittest.TestCase):

@@ -115,3 +115,10 @@ def best_with_limit(limit, tree):
         if weight > best[0] and set_count(mask, tree) <= limit:
             best = [weight, mask]
     return best
+
+
+def count_closed_sets(tree):
+    """Give back how many closed sets there are, the empty one included, or an error code."""
+    if not tree_fits(tree):
+        return [OUTSIDE_LIMITS]
+    return [len(closed_sets(tree))]
